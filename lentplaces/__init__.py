@@ -1,0 +1,1 @@
+"""Addresses lent to machines on a net."""
